@@ -9,15 +9,17 @@ import unittest
 ROOT = pathlib.Path(__file__).resolve().parent.parent
 FILES = sorted((ROOT / "peakroll").glob("*.py"))
 BUILTINS = set("""len range enumerate zip min max sum abs sorted reversed int str bool bytes list tuple dict set
-frozenset isinstance ord repr any all divmod Exception ValueError TypeError KeyError IndexError LookupError ZeroDivisionError
-ArithmeticError OverflowError RuntimeError NotImplementedError AttributeError StopIteration""".split())
-BARRED_WORDS = set("""type typing typing_extensions enum Enum IntEnum StrEnum Flag IntFlag Generic Protocol ABC ABCMeta
-namedtuple NamedTuple TypedDict TYPE_CHECKING abstractmethod""".split())
+frozenset isinstance ord repr any all divmod Exception ValueError TypeError KeyError IndexError LookupError
+ZeroDivisionError ArithmeticError OverflowError RuntimeError NotImplementedError AttributeError
+StopIteration""".split())
+BARRED_WORDS = set("""type typing typing_extensions enum Enum IntEnum StrEnum Flag IntFlag Generic Protocol ABC
+ABCMeta namedtuple NamedTuple TypedDict TYPE_CHECKING abstractmethod""".split())
 BARRED_NAMES = set("""register mro elements open input version_info with_traceback add_note attrgetter breakpoint
-builtins compile copyright credits delattr dir eval exec exit gc getattr globals hasattr help id importlib license locals
-methodcaller os quit setattr super type vars sys""".split())
+builtins compile copyright credits delattr dir eval exec exit gc getattr globals hasattr help id importlib license
+locals methodcaller os quit setattr super type vars sys""".split())
 BARRED_NODES = (ast.With, ast.Match, ast.Global, ast.Nonlocal, ast.Yield, ast.YieldFrom, ast.AsyncFunctionDef,
-                ast.Await, ast.AsyncFor, ast.AsyncWith, ast.Import, ast.GeneratorExp, ast.NamedExpr, ast.Div, ast.TryStar)
+                ast.Await, ast.AsyncFor, ast.AsyncWith, ast.Import, ast.GeneratorExp, ast.NamedExpr, ast.Div,
+                ast.TryStar)
 DOUBLES = {"__init__", "__eq__", "__repr__", "__str__", "__len__"}
 
 
