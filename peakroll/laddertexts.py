@@ -1,10 +1,9 @@
 """Ladders written as texts, and read from them."""
 
+from peakroll.checks import need_text
 from peakroll.errors import NoLadder, NoText
 from peakroll.ladders import Ladder
-from peakroll.numbertexts import whole_of
-
-MOST_FIGURES = 30
+from peakroll.numbertexts import read_wide
 
 
 def write_ladder(ladder):
@@ -19,8 +18,7 @@ def written_piece(begin, numbers):
 
 
 def read_ladder(text):
-    if not isinstance(text, str):
-        raise NoText("a ladder is read from a text")
+    need_text(text)
     pieces = [read_piece(piece) for piece in text.split("; ")]
     begin, parts = pieces[0]
     try:
@@ -36,11 +34,4 @@ def read_piece(piece):
     # One blank stands ahead of each number, so nothing stands ahead of the first blank.
     if sign == "" or words[0] != "":
         raise NoText("a beginning, a colon, and a blank ahead of each number are read")
-    return (read_whole(begin), [read_whole(word) for word in words[1:]])
-
-
-def read_whole(word):
-    number = whole_of(word, MOST_FIGURES)
-    if number is None:
-        raise NoText("a number is read as it is written, with at most thirty figures")
-    return number
+    return (read_wide(begin), [read_wide(word) for word in words[1:]])

@@ -1,5 +1,9 @@
 """Whole numbers in texts, written as str writes them."""
 
+from peakroll.errors import NoText
+
+WIDE_FIGURES = 30
+
 
 def whole_of(word, most):
     """The number that is written by the word, in at most so many figures; None where the word writes none."""
@@ -12,3 +16,10 @@ def whole_of(word, most):
     if figures[0] == "0" and word != "0":
         return None
     return int(word)
+
+
+def read_wide(word):
+    number = whole_of(word, WIDE_FIGURES)
+    if number is None:
+        raise NoText("a number is read as it is written, with at most thirty figures")
+    return number

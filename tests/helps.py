@@ -1,11 +1,14 @@
-"""What several test files need: wrong things, a check for refusals, and ladders laid out slowly, bar by bar."""
+"""What several test files need: wrong things, a check for refusals, ladders laid out slowly, bar by bar, and bars made
+slowly, entry by entry."""
 
+import random
 import unittest
 
 from peakroll import errors
 
 MOST_WIDE = 10 ** 30 - 1
 MOST_NUMBER = 10 ** 40 - 1
+BILLION = 1000000000
 
 
 class Odd:
@@ -42,6 +45,11 @@ NO_LISTS = [None, True, False, 0, 1, -1, "", "1", "12", b"", b"\x01", {}, {1: 1}
 
 class Case(unittest.TestCase):
 
+    def same(self, told, wanted):
+        """Equal, and of the same kinds throughout."""
+        self.assertEqual(told, wanted)
+        self.assertEqual(kinds_of(told), kinds_of(wanted))
+
     def refused(self, kind, call, *things):
         """The call is refused with just that class."""
         try:
@@ -64,6 +72,17 @@ SMALL = [
     (2, [1] * 12, [(-7, [2, 3])]),
     (1, [4, -11, -1, 2], [(3, [1, 2]), (-1, [2]), (4, [1, 1, 2]), (-2, [3, 1])]),
     (-9, [2, 1, -2], [(-5, [1, 2, 3, 4, 5, 6, 7, 8, 9, 10, 11, 12])]),
+]
+
+# Beginnings of thirty figures, parts of a billion, sizes of a thousand.
+FAR = [
+    (MOST_WIDE, [1], [(MOST_WIDE, [1])] * 4),
+    (-MOST_WIDE, [1], [(-MOST_WIDE, [1])] * 4),
+    (MOST_WIDE, [7, -3, 2], [(-MOST_WIDE, [3, 1]), (5, [1000] * 12)]),
+    (-MOST_WIDE, [7, -3, -1, 2, -6], [(MOST_WIDE, [2]), (-1, [1, 2, 3]), (0, [7]), (MOST_WIDE, [1, 1000])]),
+    (0, [BILLION, -BILLION], [(0, [1000])]),
+    (12, [BILLION, -BILLION, BILLION, BILLION, -BILLION, -BILLION] * 2, [(1, [1000, 1])]),
+    (-1, [1, -BILLION], [(-1, [999, 1000])]),
 ]
 
 
@@ -112,3 +131,83 @@ def slow_rolls(begin, parts, rows, rounds):
         rolls.append({number: (below[group[0]][0], below[group[-1]][1]) for number, group in groups.items()
                       if group[0] in below and group[-1] in below})
     return rolls
+
+
+KEY_SIGNS = "abcdefghijklmnopqrstuvwxyz0123456789"
+
+NO_BAR = (0, 0, None, None, None, None)
+
+# Never a key: no signs, nine of them, or one that is none of a to z and 0 to 9.
+NO_KEYS = ["", "abcdefghi", "a" * 9, "1" * 9, "a" * 5000, "A", "aB", "Z", "a-b", "-", "-1", "a_b", "_", "a.b", "a:b",
+           "a+", "+1", "a\n", "\na", "a\tb", "\ta", "a\r", "a\x00", "\x00", "a\x0b", "\u00e4", "\u00df", "a\u0301",
+           "\u0131", "\u0661", "\u00b2", "\uff41", "\uff11", "\u212a", "\ufeffa", "\u00a0", "a\u2028", "\ud800",
+           "\U0001d41a", "`", "{", "@", "[", ":"]
+
+
+def some_keys(chance, many):
+    """So many unlike keys, of one to eight signs."""
+    keys = set()
+    while len(keys) < many:
+        keys.add("".join(chance.choice(KEY_SIGNS) for _ in range(chance.choice([1, 1, 2, 3, 8]))))
+    return chance.sample(sorted(keys), many)
+
+
+def some_entries(seed, many, low, high):
+    """So many entries with unlike keys, moments from low to high and close values, in no order."""
+    chance = random.Random(seed)
+    return [(chance.randint(low, high), key, chance.randint(-9, 9)) for key in some_keys(chance, many)]
+
+
+def far_entries():
+    """Moments and values of thirty figures either way, beside near ones."""
+    ends = [MOST_WIDE, -MOST_WIDE, 0, 10 ** 29, -10 ** 29]
+    return [(moment, f"{at}k{to}", value) for at, moment in enumerate(ends) for to, value in enumerate(ends)]
+
+
+def comes_ahead(one, other):
+    """Whether the one entry's place is ahead of the other's, told sign by sign."""
+    if one[0] != other[0]:
+        return one[0] < other[0]
+    for sign, beside in zip(one[1], other[1]):
+        if sign != beside:
+            return ord(sign) < ord(beside)
+    return len(one[1]) < len(other[1])
+
+
+def slow_order(entries):
+    """The entries as tuples, each put right behind the last one that is not behind it."""
+    rows = []
+    for entry in entries:
+        at = len(rows)
+        while at > 0 and comes_ahead(entry, rows[at - 1]):
+            at -= 1
+        rows.insert(at, tuple(entry))
+    return rows
+
+
+def slow_bar(entries):
+    """The bar of entries, grown by one after another."""
+    count, total, least, greatest, first, last = NO_BAR
+    for entry in entries:
+        value = entry[2]
+        least = value if count == 0 or value < least else least
+        greatest = value if count == 0 or value > greatest else greatest
+        first = tuple(entry) if count == 0 or comes_ahead(entry, first) else first
+        last = tuple(entry) if count == 0 or comes_ahead(last, entry) else last
+        count += 1
+        total += value
+    return (count, total, least, greatest, first, last)
+
+
+def listed(thing):
+    """The same with lists in the place of all tuples."""
+    return [listed(item) for item in thing] if isinstance(thing, (list, tuple)) else thing
+
+
+def tupled(thing):
+    return tuple(tupled(item) for item in thing) if isinstance(thing, (list, tuple)) else thing
+
+
+def kinds_of(thing):
+    """Which kinds stand where: lists and tuples that are equal item by item are told apart by it."""
+    return (type(thing), [kinds_of(item) for item in thing] if isinstance(thing, (list, tuple)) else None)

@@ -4,20 +4,8 @@ import unittest
 
 from peakroll.errors import NoMoment, NoNumber, NoRoll
 from peakroll.ladders import Ladder
-from tests.helps import (MOST_NUMBER, MOST_WIDE, NO_NUMBERS, NO_WHOLES, NO_WIDES, SMALL, Case, slow_bars, slow_groups,
-                         slow_rolls)
-
-BILLION = 1000000000
-
-FAR = [
-    (MOST_WIDE, [1], [(MOST_WIDE, [1])] * 4),
-    (-MOST_WIDE, [1], [(-MOST_WIDE, [1])] * 4),
-    (MOST_WIDE, [7, -3, 2], [(-MOST_WIDE, [3, 1]), (5, [1000] * 12)]),
-    (-MOST_WIDE, [7, -3, -1, 2, -6], [(MOST_WIDE, [2]), (-1, [1, 2, 3]), (0, [7]), (MOST_WIDE, [1, 1000])]),
-    (0, [BILLION, -BILLION], [(0, [1000])]),
-    (12, [BILLION, -BILLION, BILLION, BILLION, -BILLION, -BILLION] * 2, [(1, [1000, 1])]),
-    (-1, [1, -BILLION], [(-1, [999, 1000])]),
-]
+from tests.helps import (BILLION, FAR, MOST_NUMBER, MOST_WIDE, NO_NUMBERS, NO_WHOLES, NO_WIDES, SMALL, Case, slow_bars,
+                         slow_groups, slow_rolls)
 
 
 class ByHand(Case):

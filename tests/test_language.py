@@ -20,11 +20,34 @@ locals methodcaller os quit setattr super type vars sys""".split())
 BARRED_NODES = (ast.With, ast.Match, ast.Global, ast.Nonlocal, ast.Yield, ast.YieldFrom, ast.AsyncFunctionDef,
                 ast.Await, ast.AsyncFor, ast.AsyncWith, ast.Import, ast.GeneratorExp, ast.NamedExpr, ast.Div,
                 ast.TryStar)
+# Methods of builtin values.
+METHODS = set("""append clear copy count endswith extend find get index insert isalnum isalpha isdigit islower isspace
+isupper items join keys ljust lower lstrip partition pop remove replace reverse rfind rjust rpartition rsplit rstrip
+setdefault split splitlines startswith strip update upper values zfill bit_length title capitalize swapcase casefold
+center expandtabs removeprefix removesuffix rindex isascii isdecimal isnumeric istitle isidentifier isprintable sort add
+discard""".split())
+KEYWORDS = {"sorted": {"key", "reverse"}, "min": {"key", "default"}, "max": {"key", "default"}, "sum": {"start"},
+            "enumerate": {"start"}, "zip": {"strict"}}
 DOUBLES = {"__init__", "__eq__", "__repr__", "__str__", "__len__"}
 
 
 def tree_of(file):
     return ast.parse(file.read_text(encoding="ascii"))
+
+
+def all_nodes():
+    return [node for file in FILES for node in ast.walk(tree_of(file))]
+
+
+def own_methods():
+    return {item.name for node in all_nodes() if isinstance(node, ast.ClassDef)
+            for item in node.body if isinstance(item, ast.FunctionDef)}
+
+
+def is_set(node):
+    if isinstance(node, ast.Call) and isinstance(node.func, ast.Name):
+        return node.func.id in ("set", "frozenset")
+    return isinstance(node, (ast.Set, ast.SetComp))
 
 
 def named(node):
@@ -42,7 +65,8 @@ class Language(unittest.TestCase):
 
     def test_there_are_files(self):
         names = [file.name for file in FILES]
-        for name in ["__init__.py", "errors.py", "ladders.py", "laddertexts.py"]:
+        for name in ["__init__.py", "errors.py", "ladders.py", "laddertexts.py", "bars.py", "entrytexts.py", "books.py",
+                     "rolls.py"]:
             self.assertIn(name, names)
 
     def test_the_folder_holds_nothing_else(self):
@@ -127,15 +151,63 @@ class Language(unittest.TestCase):
                 if isinstance(node, ast.Name) and hasattr(builtins, node.id):
                     self.assertIn(node.id, BUILTINS, file)
 
-    def test_no_name_is_a_method_and_an_attribute(self):
-        methods, attributes = set(), set()
+    def test_attributes(self):
+        """No name is a method and an attribute; what is read is assigned; methods are own ones or allowed ones."""
+        methods, calls, reads, assigned = own_methods(), set(), set(), set()
+        for node in all_nodes():
+            if isinstance(node, ast.Attribute):
+                (assigned if isinstance(node.ctx, ast.Store) else reads).add(node.attr)
+            if isinstance(node, ast.Call) and isinstance(node.func, ast.Attribute):
+                calls.add(node.func.attr)
+        self.assertEqual(methods & assigned, set())
+        self.assertEqual(calls - methods - METHODS, set())
+        self.assertEqual(reads - calls - assigned, set())
+
+    def test_calls(self):
+        for node in all_nodes():
+            if isinstance(node, ast.Call):
+                self.assertFalse([item for item in node.args if isinstance(item, ast.Starred)], node.lineno)
+                name = node.func.id if isinstance(node.func, ast.Name) else ""
+                allowed = KEYWORDS.get(name, set())
+                self.assertLessEqual({keyword.arg for keyword in node.keywords}, allowed, node.lineno)
+
+    def test_sets_are_used_on_the_spot(self):
+        """The package stores no set: each stands in sorted or len, or after in."""
         for file in FILES:
-            for node in ast.walk(tree_of(file)):
-                if isinstance(node, ast.ClassDef):
-                    methods |= {item.name for item in node.body if isinstance(item, ast.FunctionDef)}
-                if isinstance(node, ast.Attribute) and isinstance(node.ctx, ast.Store):
-                    attributes.add(node.attr)
-        self.assertEqual(methods & attributes, set())
+            tree = tree_of(file)
+            allowed = set()
+            for node in ast.walk(tree):
+                if isinstance(node, ast.Call) and isinstance(node.func, ast.Name):
+                    if node.func.id in ("sorted", "len"):
+                        allowed |= {id(item) for item in node.args}
+                if isinstance(node, ast.Compare) and isinstance(node.ops[0], (ast.In, ast.NotIn)):
+                    allowed.add(id(node.comparators[0]))
+            for node in ast.walk(tree):
+                self.assertTrue(not is_set(node) or id(node) in allowed, (file, getattr(node, "lineno", 0)))
+
+    def test_each_name_is_bound_once(self):
+        """At module level; and no name inside a function is that of an import or a class of its file."""
+        for file in FILES:
+            tree = tree_of(file)
+            imported = [alias.asname or alias.name for node in tree.body if isinstance(node, ast.ImportFrom)
+                        for alias in node.names]
+            bound = imported + self.defined_in(file)
+            self.assertEqual(len(bound), len(set(bound)), file)
+            taken = set(imported) | {node.name for node in tree.body if isinstance(node, ast.ClassDef)}
+            for node in ast.walk(tree):
+                if isinstance(node, (ast.Name, ast.arg)):
+                    self.assertEqual(set(named(node)) & taken, set(), file)
+
+    def test_no_two_files_import_from_each_other(self):
+        below = {}
+        for file in FILES:
+            below[f"peakroll.{file.stem}"] = {node.module for node in ast.walk(tree_of(file))
+                                              if isinstance(node, ast.ImportFrom)}
+        while below:
+            ready = [name for name in below if not below[name] & set(below)]
+            self.assertNotEqual(ready, [], below)
+            for name in ready:
+                del below[name]
 
 
 if __name__ == "__main__":

@@ -4,9 +4,7 @@ import unittest
 
 from peakroll.errors import NoLadder
 from peakroll.ladders import Ladder
-from tests.helps import MOST_WIDE, NO_LISTS, NO_WHOLES, NO_WIDES, SMALL, Case
-
-BILLION = 1000000000
+from tests.helps import BILLION, MOST_WIDE, NO_LISTS, NO_WHOLES, NO_WIDES, SMALL, Case
 
 
 class Made(Case):

@@ -1,20 +1,20 @@
 """The README's examples tell what the program tells."""
 
-import ast
 import pathlib
 import re
 import unittest
 
 README = pathlib.Path(__file__).resolve().parent.parent / "README.md"
+# What stands behind the sign in words, not as a value.
+IN_WORDS = ["a ladder just like it"]
 
 
-def told(line):
-    """What stands behind the line's sign: a plain value, with words behind a colon or none."""
-    behind = line.split("#", 1)[1].strip()
+def told(behind, names):
+    """What stands behind the line's sign: a value, with words behind a colon or none."""
     try:
-        return ast.literal_eval(behind)
+        return eval(behind, names)
     except SyntaxError:
-        return ast.literal_eval(behind.split(": ", 1)[0])
+        return eval(behind.split(": ", 1)[0], names)
 
 
 class Readme(unittest.TestCase):
@@ -23,12 +23,15 @@ class Readme(unittest.TestCase):
         names, checked = {}, 0
         for block in re.findall("```python\n(.*?)```", README.read_text(), re.DOTALL):
             for line in block.splitlines():
-                if re.match(r"(ladder\.|write_ladder)", line):
-                    self.assertEqual(eval(line, names), told(line), line)
-                    checked += 1
-                else:
+                code, _, behind = (piece.strip() for piece in line.partition("#"))
+                if code == "" or behind == "" or behind in IN_WORDS:
                     exec(line, names)
-        self.assertEqual(checked, 10)
+                else:
+                    wanted = told(behind, names)
+                    self.assertEqual(eval(code, names), wanted, line)
+                    self.assertIs(type(eval(code, names)), type(wanted), line)
+                    checked += 1
+        self.assertEqual(checked, 28)
 
 
 if __name__ == "__main__":
