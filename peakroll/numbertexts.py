@@ -3,6 +3,7 @@
 from peakroll.errors import NoText
 
 WIDE_FIGURES = 30
+NUMBER_FIGURES = 40
 
 
 def whole_of(word, most):

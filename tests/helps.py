@@ -1,5 +1,5 @@
-"""What several test files need: wrong things, a check for refusals, ladders laid out slowly, bar by bar, and bars made
-slowly, entry by entry."""
+"""What several test files need: wrong things, a check for refusals, ladders laid out slowly, bar by bar, covers made
+slowly, moment by moment, and bars made slowly, entry by entry."""
 
 import random
 import unittest
@@ -37,6 +37,9 @@ NO_WHOLES = [None, True, False, "", "0", "1", "a text", b"1", [], [0], [1], (), 
 NO_WIDES = [MOST_WIDE + 1, -MOST_WIDE - 1, 10 ** 40, -10 ** 40, 10 ** 5000, -10 ** 5000]
 
 NO_NUMBERS = [MOST_NUMBER + 1, -MOST_NUMBER - 1, 10 ** 41, 10 ** 5000, -10 ** 5000]
+
+# Never a text.
+NO_TEXTS = [thing for thing in NO_WHOLES if not isinstance(thing, str)] + [0, 1, -1, 10 ** 5000]
 
 # Neither a list nor a tuple.
 NO_LISTS = [None, True, False, 0, 1, -1, "", "1", "12", b"", b"\x01", {}, {1: 1}, {1}, frozenset([1]), range(1, 3),
@@ -133,6 +136,21 @@ def slow_rolls(begin, parts, rows, rounds):
     return rolls
 
 
+def slow_cover(rolls, one, other):
+    """The cover of a time on rolls that are laid out: at each moment the greatest bar that lies within."""
+    pieces = []
+    for moment in range(one, other):
+        first, behind = next(bar for bar in rolls[0].values() if bar[0] <= moment < bar[1])
+        piece = ("rest", max(first, one), min(behind, other))
+        for roll, bars in enumerate(rolls):
+            for number, (first, behind) in bars.items():
+                if one <= first <= moment < behind <= other:
+                    piece = ("bar", roll, number)
+        if pieces[-1:] != [piece]:
+            pieces.append(piece)
+    return pieces
+
+
 KEY_SIGNS = "abcdefghijklmnopqrstuvwxyz0123456789"
 
 NO_BAR = (0, 0, None, None, None, None)
@@ -156,6 +174,21 @@ def some_entries(seed, many, low, high):
     """So many entries with unlike keys, moments from low to high and close values, in no order."""
     chance = random.Random(seed)
     return [(chance.randint(low, high), key, chance.randint(-9, 9)) for key in some_keys(chance, many)]
+
+
+def altered(chance, entries, low, high):
+    """The entries with some left out, some put in, some moved and some with another value."""
+    rows = []
+    for moment, key, value in entries:
+        way = chance.choice(["as it is", "as it is", "left out", "moved", "another value"])
+        if way == "moved":
+            moment = chance.randint(low, high)
+        if way == "another value":
+            value += chance.choice([-1, 1, 100])
+        if way != "left out":
+            rows.append((moment, key, value))
+    rows += [(chance.randint(low, high), f"new{at}", chance.randint(-9, 9)) for at in range(chance.randint(0, 4))]
+    return chance.sample(rows, len(rows))
 
 
 def far_entries():

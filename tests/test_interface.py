@@ -10,6 +10,9 @@ FUNCTIONS = {
     "entrytexts": {"write_entries": ["entries"], "read_entries": ["text"], "write_bar": ["bar"]},
     "rolls": {"bars_of": ["ladder", "roll", "entries"], "rolled": ["ladder", "roll", "bars"],
               "between": ["entries", "one", "other"]},
+    "covers": {"cover": ["ladder", "one", "other"], "bar_of_cover": ["ladder", "entries", "pieces"]},
+    "changes": {"changes": ["ladder", "one", "other"]},
+    "locks": {"read_locks": ["ladder", "text"]},
 }
 CLASSES = {
     ("ladders", "Ladder"): {
@@ -19,6 +22,10 @@ CLASSES = {
     ("books", "Book"): {
         "__init__": ["sources"], "order": [], "put": ["source", "key", "moment", "value"], "take": ["source", "key"],
         "rank": ["order"], "counted": ["key"], "tells": ["key"], "entries": [], "copied": []},
+    ("followers", "Follower"): {"__init__": ["ladder", "roll", "begin", "end"], "news": ["entries"]},
+    ("locks", "Locks"): {
+        "__init__": ["ladder"], "shut": ["roll", "number"], "open_bar": ["roll", "number"],
+        "is_shut": ["roll", "number"], "held_by": ["moment"], "broken": ["one", "other"], "written": [], "copied": []},
 }
 
 

@@ -31,7 +31,7 @@ class Readme(unittest.TestCase):
                     self.assertEqual(eval(code, names), wanted, line)
                     self.assertIs(type(eval(code, names)), type(wanted), line)
                     checked += 1
-        self.assertEqual(checked, 28)
+        self.assertEqual(checked, 43)
 
 
 if __name__ == "__main__":
