@@ -161,6 +161,12 @@ NO_KEYS = ["", "abcdefghi", "a" * 9, "1" * 9, "a" * 5000, "A", "aB", "Z", "a-b",
            "\u0131", "\u0661", "\u00b2", "\uff41", "\uff11", "\u212a", "\ufeffa", "\u00a0", "a\u2028", "\ud800",
            "\U0001d41a", "`", "{", "@", "[", ":"]
 
+# Never a source: no letters, seven of them, or a sign that is none of a to z.
+NO_SOURCE_WORDS = ["", " ", "abcdefg", "a" * 7, "a" * 5000, "A", "aB", "Z", "0", "1", "a1", "1a", "a b", " a", "a ",
+                   "a-b", "_", "a_", "a.", "a/b", "a\n", "\na", "a\t", "a\r", "a\x00", "\x00", "\u00e4", "\u00df",
+                   "a\u0301", "\u0131", "\u0661", "\uff41", "\u212a", "\ufeffa", "\u00a0", "\ud800", "\U0001d41a",
+                   "\u00aa", "`", "{", "@", "["]
+
 
 def some_keys(chance, many):
     """So many unlike keys, of one to eight signs."""

@@ -6,15 +6,9 @@ import unittest
 
 from peakroll.books import Book
 from peakroll.errors import NoSources, NoTell
-from tests.helps import MOST_WIDE, NO_LISTS, NO_WHOLES, Case, slow_order, some_keys
+from tests.helps import MOST_WIDE, NO_LISTS, NO_SOURCE_WORDS, NO_WHOLES, Case, slow_order, some_keys
 
 SIX = ["a", "zzzzzz", "b", "ab", "ba", "source"]
-
-# Never a source: no letters, seven of them, or a sign that is none of a to z.
-NO_SOURCE_WORDS = ["", " ", "abcdefg", "a" * 7, "a" * 5000, "A", "aB", "Z", "0", "1", "a1", "1a", "a b", " a", "a ",
-                   "a-b", "_", "a_", "a.", "a/b", "a\n", "\na", "a\t", "a\r", "a\x00", "\x00", "\u00e4", "\u00df",
-                   "a\u0301", "\u0131", "\u0661", "\uff41", "\u212a", "\ufeffa", "\u00a0", "\ud800", "\U0001d41a",
-                   "\u00aa", "`", "{", "@", "["]
 
 
 def told_by(book, keys):

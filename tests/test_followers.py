@@ -120,7 +120,8 @@ class Spans(Case):
             rows = [(moment, "a", 4), (moment + 9, "b", 5), (0, "e", 8)]
             # The bar at the end of all moments isn't all within them.
             rows = [row for row in rows if -MOST_WIDE <= row[0] <= MOST_WIDE]
-            near = [(other, f"{at}", 1) for at, other in enumerate([moment - 1, moment + 10]) if abs(other) <= MOST_WIDE]
+            near = [(other, f"{at}", 1) for at, other in enumerate([moment - 1, moment + 10])
+                    if abs(other) <= MOST_WIDE]
             self.same(follower.news(rows + near), [(number, NO_BAR, slow_bar(rows[:-1]))])
 
 

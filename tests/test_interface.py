@@ -13,6 +13,8 @@ FUNCTIONS = {
     "covers": {"cover": ["ladder", "one", "other"], "bar_of_cover": ["ladder", "entries", "pieces"]},
     "changes": {"changes": ["ladder", "one", "other"]},
     "locks": {"read_locks": ["ladder", "text"]},
+    "plans": {"plan": ["state", "goal", "low", "high"], "reach": ["state", "many", "low", "high"]},
+    "deeds": {"words_of": ["row"]},
 }
 CLASSES = {
     ("ladders", "Ladder"): {
@@ -26,6 +28,12 @@ CLASSES = {
     ("locks", "Locks"): {
         "__init__": ["ladder"], "shut": ["roll", "number"], "open_bar": ["roll", "number"],
         "is_shut": ["roll", "number"], "held_by": ["moment"], "broken": ["one", "other"], "written": [], "copied": []},
+    ("keepers", "Keeper"): {
+        "__init__": ["ladder"], "give": ["entries"], "forget": ["level", "moment"], "floor": ["level"], "entries": [],
+        "bar": ["roll", "number"], "bar_between": ["one", "other"], "sealed": []},
+    ("houses", "House"): {
+        "__init__": ["ladder", "sources"], "do": ["row"], "back": [], "bar": ["roll", "number"],
+        "bar_between": ["one", "other"], "entries": [], "news": ["name"], "locks": []},
 }
 
 

@@ -66,7 +66,8 @@ class Language(unittest.TestCase):
     def test_there_are_files(self):
         names = [file.name for file in FILES]
         for name in ["__init__.py", "errors.py", "ladders.py", "laddertexts.py", "bars.py", "entrytexts.py", "books.py",
-                     "rolls.py", "covers.py", "changes.py", "followers.py", "locks.py"]:
+                     "rolls.py", "covers.py", "changes.py", "followers.py", "locks.py", "plans.py", "keepers.py",
+                     "deeds.py", "houses.py"]:
             self.assertIn(name, names)
 
     def test_the_folder_holds_nothing_else(self):

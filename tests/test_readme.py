@@ -27,11 +27,11 @@ class Readme(unittest.TestCase):
                 if code == "" or behind == "" or behind in IN_WORDS:
                     exec(line, names)
                 else:
-                    wanted = told(behind, names)
-                    self.assertEqual(eval(code, names), wanted, line)
-                    self.assertIs(type(eval(code, names)), type(wanted), line)
+                    wanted, found = told(behind, names), eval(code, names)
+                    self.assertEqual(found, wanted, line)
+                    self.assertIs(type(found), type(wanted), line)
                     checked += 1
-        self.assertEqual(checked, 43)
+        self.assertEqual(checked, 61)
 
 
 if __name__ == "__main__":
