@@ -19,11 +19,11 @@ def words_of(row):
     """The deed's word, and the texts and whole numbers behind it."""
     if not isinstance(row, str):
         raise NoRow("a row is a text")
-    deed, *words = row.split(" ")
-    kinds = kinds_behind(deed, len(words))
-    if len(kinds) != len(words):
+    words = row.split(" ")
+    kinds = kinds_behind(words[0], len(words) - 1)
+    if len(kinds) != len(words) - 1:
         raise NoRow("the deed has another number of words")
-    return [deed] + [read_word(kind, word) for kind, word in zip(kinds, words)]
+    return words[:1] + [read_word(kind, word) for kind, word in zip(kinds, words[1:])]
 
 
 def kinds_behind(deed, many):

@@ -1,7 +1,7 @@
 """Keepers: entries that are there, and the bars of those that were forgotten."""
 
 from peakroll.bars import empty, in_order, joined
-from peakroll.checks import need_moment, need_roll
+from peakroll.checks import need_roll
 from peakroll.covers import cover
 from peakroll.errors import Gone, NoFloor, Sealed
 from peakroll.rolls import bars_of, between
@@ -29,7 +29,7 @@ class Keeper:
 
     def forget(self, level, moment):
         self.need_level(level)
-        need_moment(moment)
+        # bar_at refuses what is no moment.
         number = self.ladder.bar_at(level + 1, moment)
         place = self.ladder.stretch(level + 1, number)[0]
         if not self.may_rise(level, place):

@@ -1,7 +1,7 @@
 """Locks: which bars of a ladder are shut, what they hold, and locks written as texts and read from them."""
 
 from peakroll.changes import changes
-from peakroll.checks import need_moment, need_number, need_roll, need_text
+from peakroll.checks import need_number, need_roll, need_text
 from peakroll.errors import NoLock, NoNumber, NoRoll, NoText
 from peakroll.numbertexts import NUMBER_FIGURES, whole_of
 
@@ -30,7 +30,7 @@ class Locks:
 
     def held_by(self, moment):
         """The shut bars whose stretches have the moment: pairs (roll, number), rising."""
-        need_moment(moment)
+        # bar_at refuses what is no moment: roll 0 is there in each ladder.
         pairs = [(roll, self.ladder.bar_at(roll, moment)) for roll in range(self.ladder.rolls())]
         return [pair for pair in pairs if pair in self.shut_pairs]
 

@@ -191,6 +191,12 @@ class Bars(Case):
                 self.refused(NoNumber, keeper.bar, roll, wrong)
         self.refused(NoNumber, keeper.bar, 0, -10 ** 40)
 
+    def test_what_is_forgotten_is_not_kept(self):
+        keeper = keeper_of(ROWS, (-1, 105), (0, 60), (1, 20))
+        self.assertEqual(keeper.floors, {-1: 100, 0: 50, 1: 0})
+        self.assertEqual(keeper.there, [ROWS[5]])
+        self.assertEqual(sorted(keeper.kept_bars), [(0, 5), (1, 0), (1, 1), (2, -1), (2, 0)])
+
     def test_forgotten_in_one_go_or_step_by_step(self):
         wanted = told_by(keeper_of(ROWS, (-1, 105), (0, 60), (1, 20)))
         for steps in [[(-1, -30), (-1, 15), (-1, 25), (-1, 105), (0, 0), (0, 55), (1, -20), (1, 20)],

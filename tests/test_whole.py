@@ -146,15 +146,9 @@ class TheWhole(HouseCase):
     def test_the_bar_of_any_stretch_however_it_was_come_to(self):
         house = house_of(*START, "put a x 12 1", "put b y 33 2", "put a z 71 3")
         entries = house.entries()
-        for roll in range(3):
-            for number in range(-1, 8):
-                first, behind = TENS.stretch(roll, number)
-                wanted = slow_bar([entry for entry in entries if first <= entry[0] < behind])
-                self.same(house.bar(roll, number), wanted)
-                self.same(house.bar_between(first, behind), wanted)
-        house.do("forget -1 53")
-        for roll in range(3):
-            for number in range(-1, 8):
+        for row in ["shut 0 0", "forget -1 21", "forget -1 53"]:
+            house.do(row)
+            for roll, number in itertools.product(range(3), range(-1, 8)):
                 first, behind = TENS.stretch(roll, number)
                 wanted = slow_bar([entry for entry in entries if first <= entry[0] < behind])
                 self.same(house.bar(roll, number), wanted)
